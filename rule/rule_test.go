@@ -229,7 +229,7 @@ func TestParseFails(t *testing.T) {
 		}
 	}
 	for name, s := range map[string]string{"33 clauses": strings.Repeat("reject;", 33), "nine acts": "when deleted {" + strings.Repeat("reject;", 9) + "}", "nine kids": "when deleted" + strings.Repeat(" or deleted", 8) + "{}",
-		"nine deep": "when " + strings.Repeat("not ", 8) + "deleted {}",
+		"nine deep":             "when " + strings.Repeat("not ", 8) + "deleted {}",
 		"too long when printed": strings.Repeat("when deleted{"+strings.Repeat("grant\"\"\"\";", 8)+"}", 32)} {
 		p, at, e := rule.Parse(s)
 		if e != api.ErrLong || at != 0 || len(p.Clauses) != 0 {
