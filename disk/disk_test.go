@@ -314,6 +314,63 @@ func TestCopyAndSharing(t *testing.T) {
 	}
 }
 
+func TestRenameToItself(t *testing.T) {
+	d := made(t, 50)
+	d.Put("a", []byte("x"))
+	want(t, "Rename", d.Rename("a", "a"), api.OK)
+	if d.Waits() != 1 || look(d) != "a=x;" {
+		t.Errorf("%d versions wait: %s", d.Waits(), look(d))
+	}
+}
+
+func TestVersionsAreApart(t *testing.T) {
+	// What was passed may be written to, before a crash makes the versions again.
+	d := made(t, 500)
+	b, c := []byte("abc"), []byte("def")
+	d.Put("p", b)
+	d.Append("q", c)
+	clear(b)
+	clear(c)
+	d.Crash(9, 0)
+	d.Start()
+	if look(d) != "p=abc;q=def;" {
+		t.Errorf("%q", look(d))
+	}
+	// Two disks go on from the same contents.
+	for _, sync := range []bool{false, true} {
+		one := made(t, 500)
+		for range 5 {
+			one.Append("a", []byte("xyz"))
+		}
+		one.Put("p", []byte("12345"))
+		if sync {
+			one.Sync()
+		}
+		two := one.Copy()
+		one.Append("a", []byte("1"))
+		two.Append("a", []byte("2"))
+		one.Append("p", []byte("1"))
+		two.Append("p", []byte("2"))
+		for i, d := range []*disk.Disk{one, two} {
+			s := fmt.Sprintf("a=xyzxyzxyzxyzxyz%d;p=12345%d;", i+1, i+1)
+			if look(d) != s {
+				t.Errorf("%s", look(d))
+			}
+		}
+		one.Crash(99, 0)
+		two.Crash(99, 0)
+		one.Start()
+		two.Start()
+		one.Append("p", []byte("1"))
+		two.Append("p", []byte("2"))
+		one.Sync()
+		two.Sync()
+		if look(one) != "a=xyzxyzxyzxyzxyz1;p=1234511;" || look(two) != "a=xyzxyzxyzxyzxyz2;p=1234522;" {
+			t.Errorf("%s, %s", look(one), look(two))
+		}
+	}
+}
+
 // TestPrefix compares a disk with a plain model: the text of each version.
 func TestPrefix(t *testing.T) {
 	r := rand.New(rand.NewSource(5))

@@ -97,6 +97,9 @@ func TestNilAndZero(t *testing.T) {
 	if s := scanned(keys.Merge(none, &zero, nil)); s != "a 1" {
 		t.Errorf("%s", s)
 	}
+	if s := scanned(keys.Merge(of("", 1, "a", 2), of("", 3))); s != " 1, a 2" {
+		t.Errorf("%s", s)
+	}
 	if s := scanned(keys.Merge[int]()); s != "" {
 		t.Errorf("%s", s)
 	}

@@ -65,7 +65,7 @@ func TestAll(t *testing.T) {
 		"a(b)<c={": {word("a"), mark("("), word("b"), mark(")"), mark("<"), word("c"), mark("="), mark("{")}, "a!=b": {word("a"), mark("!="), word("b")},
 		`"a""b"c"\\"1`: {text("a"), text("b"), word("c"), text(`\`), number(1)}, `"#"`: {text("#")}, "1;2": {number(1), mark(";"), number(2)}, "a#b\n": {word("a")}, "1#": {number(1)},
 		long(64): {word(long(64))}, `"` + strings.Repeat(`\"`, 64) + `"`: {text(strings.Repeat(`"`, 64))}, "a.b.c-d_e.0": {word("a.b.c-d_e.0")}, "1\"x\"": {number(1), text("x")},
-		"old.a": {word("old.a")}, "a\tb\rc": {word("a"), word("b"), word("c")},
+		"A z Z a Aaz.ZA_ q0.9": {word("A"), word("z"), word("Z"), word("a"), word("Aaz.ZA_"), word("q0.9")}, "9 0": {number(9), number(0)}, "old.a": {word("old.a")}, "a\tb\rc": {word("a"), word("b"), word("c")},
 	} {
 		if l, at, e := lex.All(s); e != api.OK || at != 0 || !lex.Same(l, want) {
 			t.Errorf("%q: %v, %d, %v", s, l, at, e)

@@ -176,6 +176,41 @@ func TestMayDepth(t *testing.T) {
 	}
 }
 
+func TestMayLimits(t *testing.T) {
+	leaf := func(i int) api.Node {
+		return api.Node{Rev: name(t, none, 0, number(i)), Has: 1, Body: number(i)}
+	}
+	made := func(l []api.Node) api.Tree {
+		slices.SortFunc(l, func(a, b api.Node) int { return rev.Cmp(a.Rev, b.Rev) })
+		return api.Tree{Nodes: l}
+	}
+	var l []api.Node
+	for i := range 9 {
+		l = append(l, leaf(i))
+	}
+	if !tree.May(made(slices.Clone(l[:8]))) || tree.May(made(slices.Clone(l))) {
+		t.Error("nine leaves")
+	}
+	// Two paths of 16, and leaves of one node.
+	l = nil
+	for _, start := range []int{0, 100} {
+		p := line(t, none, start, 16)
+		for i, r := range p {
+			n := api.Node{Rev: r}
+			if i+1 < len(p) {
+				n.Parent = p[i+1]
+			}
+			if i == 0 {
+				n.Has, n.Body = 1, number(start+15)
+			}
+			l = append(l, n)
+		}
+	}
+	if !tree.May(made(slices.Clone(l))) || tree.May(made(append(slices.Clone(l), leaf(500)))) {
+		t.Error("33 nodes")
+	}
+}
+
 func TestSameAndOwn(t *testing.T) {
 	x, a, _, _, d := small(t)
 	for what, change := range map[string]func(y *api.Tree){
@@ -346,6 +381,8 @@ func TestEdit(t *testing.T) {
 	if _, r4, e := tree.Edit(both, name(t, r, 0, number(7)), 0, number(8)); e != api.OK || r4.Gen != 3 {
 		t.Errorf("upon a leaf that does not win: %v, %v", r4, e)
 	}
+	fails("a bad body, and a conflict", x, none, 0, api.Value{Kind: 7}, api.ErrArg)
+	fails("a bad body, and a parent that is no leaf", y, r, 0, api.Value{Kind: 7}, api.ErrArg)
 	// Of two leaves, the greater one deleted, the other one wins.
 	fails("the winner is not deleted", insert(t, y, []api.Rev{name(t, none, 0, number(6))}, 0, number(6), 1), none, 0, number(2), api.ErrConflict)
 }
@@ -362,6 +399,16 @@ func TestEditAgain(t *testing.T) {
 	z, c, e := tree.Edit(y, none, 0, number(4))
 	if e != api.OK || c.Gen != 4 || len(z.Nodes) != 4 {
 		t.Fatalf("%v, %v", c, e)
+	}
+	// The root that was cut off comes again as a leaf: its child is a node already.
+	deep := line(t, none, 0, 17)
+	cut := insert(t, api.Tree{}, deep[:16], 0, number(16), 16)
+	cut = insert(t, cut, deep[16:], 0, number(0), 1)
+	if v, r, e := tree.Edit(cut, deep[16], 0, number(1)); e != api.ErrConflict || r != none || len(v.Nodes) != 0 {
+		t.Errorf("%v, %v", r, e)
+	}
+	if _, r, e := tree.Edit(cut, deep[16], 0, number(2)); e != api.OK || r.Gen != 2 {
+		t.Errorf("%v, %v", r, e)
 	}
 	p := line(t, none, 0, 16)
 	w := insert(t, api.Tree{}, p, 0, number(15), 16)
@@ -456,6 +503,11 @@ func TestFindPathMissing(t *testing.T) {
 	m[0] = none
 	if l[0] != other {
 		t.Error("Missing shares")
+	}
+	m = tree.Missing(api.Tree{Nodes: []api.Node{{}}}, l...)
+	m[0] = none
+	if l[0] != other {
+		t.Error("Missing of a bad tree shares")
 	}
 }
 
@@ -672,8 +724,16 @@ func TestMerge(t *testing.T) {
 	if m, e := tree.Merge(api.Tree{}, x); e != api.OK || !slices.Equal(revs(m.Nodes), revs(x.Nodes)) {
 		t.Errorf("%v", e)
 	}
-	if m, e := tree.Merge(x, api.Tree{}); e != api.OK || !tree.Same(m, x) {
+	m, e := tree.Merge(x, api.Tree{})
+	if e != api.OK || !tree.Same(m, x) {
 		t.Errorf("%v", e)
+	}
+	m.Nodes[0].Deleted = 1
+	if x.Nodes[0].Deleted != 0 {
+		t.Error("Merge shares")
+	}
+	if m, e := tree.Merge(api.Tree{Nodes: []api.Node{{}}}, api.Tree{}); e != api.ErrArg || len(m.Nodes) != 0 {
+		t.Errorf("a bad tree, and nothing: %v", e)
 	}
 }
 

@@ -4,6 +4,7 @@ import (
 	"math"
 	"math/rand"
 	"reflect"
+	"slices"
 	"strings"
 	"testing"
 
@@ -116,6 +117,49 @@ func TestMay(t *testing.T) {
 	}
 	if value.May(wide) {
 		t.Error("a value of 8^8 parts is valid")
+	}
+}
+
+// filled is a list, or an object, whose text has so many bytes.
+func filled(t *testing.T, key string, size int) api.Value {
+	t.Helper()
+	v := value.List(value.Number(1), value.Number(2), value.Text(""))
+	if key != "" {
+		v = object("#", value.Number(1), key, value.Text(""))
+	}
+	s, e := value.Print(v)
+	if e != api.OK {
+		t.Fatal(e)
+	}
+	v.List[len(v.List)-1].Text = strings.Repeat("x", size-len(s))
+	return v
+}
+
+func TestLength(t *testing.T) {
+	for _, key := range []string{"", "k", "\\\\"} {
+		for size, want := range map[int]bool{500: true, 511: true, 512: true, 513: false, 514: false} {
+			if v := filled(t, key, size); value.May(v) != want {
+				t.Errorf("key %q, %d bytes: %v", key, size, !want)
+			}
+		}
+	}
+	for s, want := range map[string]bool{strings.Repeat("\\", 255): true, strings.Repeat("\\", 256): false, strings.Repeat("\"", 255): true, strings.Repeat("\"", 255) + "x": false, strings.Repeat("\\\"", 127) + "xx": true, strings.Repeat("\\\"", 127) + "xxx": false} {
+		if value.May(value.Text(s)) != want {
+			t.Errorf("%d bytes to be escaped: %v", len(s), !want)
+		}
+	}
+	for n := range 4 {
+		// Lists of no element and of one have no comma.
+		v := value.List(slices.Repeat([]api.Value{value.List()}, n)...)
+		s, _ := value.Print(v)
+		v = value.List(v, value.Text(strings.Repeat("x", 512-5-len(s))))
+		if s, e := value.Print(v); e != api.OK || len(s) != 512 {
+			t.Errorf("%d elements: %d, %v", n, len(s), e)
+		}
+		v.List[1].Text += "x"
+		if value.May(v) {
+			t.Errorf("%d elements: 513 bytes are valid", n)
+		}
 	}
 }
 
@@ -299,7 +343,7 @@ func TestPut(t *testing.T) {
 		x   api.Value
 	}{"null": {api.Value{}, "a", value.Number(1)}, "list": {value.List(), "a", value.Number(1)}, "bad object": {api.Value{Kind: api.Object, Num: 1}, "a", value.Number(1)},
 		"bad value": {v, "a", value.Text("\n")}, "key with blank": {v, "a b", value.Number(1)}, "no key": {v, "", value.Number(1)}, "key with dot": {v, "a.b", value.Number(1)},
-		"long key": {v, strings.Repeat("k", 25), value.Number(1)}, "too long": {big, "b", value.Number(1)}, "too deep": {object(), "a", nested(8)}} {
+		"long key": {v, strings.Repeat("k", 25), value.Number(1)}, "bad object made good": {object("a", value.Text("\n")), "a", value.Number(1)}, "too long": {big, "b", value.Number(1)}, "too deep": {object(), "a", nested(8)}} {
 		if w, e := value.Put(c.v, c.key, c.x); e != api.ErrArg || !value.Same(w, api.Value{}) {
 			t.Errorf("%s: %v, %v", name, w, e)
 		}
