@@ -136,9 +136,9 @@ func TestMayState(t *testing.T) {
 	}
 	for what, change := range map[string]func(s *api.State){
 		"equal ids": func(s *api.State) { s.Docs[1].Id = "a" }, "falling ids": func(s *api.State) { s.Docs[1].Id = "A" }, "equal seqs": func(s *api.State) { s.Docs[1].Seq = 3 },
-		"a local without a name": local("", 1), "equal locals": local("push", 1), "falling locals": local("a", 1), "a local too great": local("z", api.MaxCount+1),
+		"a local without a name": local("", 1), "a local of a bad name": local("z z", 1), "equal locals": local("push", 1), "falling locals": local("a", 1), "a local too great": local("z", api.MaxCount+1),
 		"falling users": entry(func(x *api.Seen) { x.User = "a" }), "falling docs": entry(func(x *api.Seen) { x.User, x.Doc = "v", "A" }), "equal entries": entry(func(x *api.Seen) { x.User, x.Doc = "v", "a" }),
-		"an entry without a user": entry(func(x *api.Seen) { x.User = "" }), "an entry without a doc": entry(func(x *api.Seen) { x.Doc = "z z" }), "an entry without a seq": entry(func(x *api.Seen) { x.Seq = 0 }),
+		"an entry without a user": entry(func(x *api.Seen) { x.User = "" }), "an entry of a bad user": entry(func(x *api.Seen) { x.User = "z z" }), "an entry without a doc": entry(func(x *api.Seen) { x.Doc = "z z" }), "an entry without a seq": entry(func(x *api.Seen) { x.Seq = 0 }),
 		"an entry without a rev": entry(func(x *api.Seen) { x.Rev = api.Rev{} }), "an entry gone 2": entry(func(x *api.Seen) { x.Gone = 2 }), "a channel, not gone": entry(func(x *api.Seen) { x.Channel = "c" }), "a bad channel": entry(func(x *api.Seen) { x.Gone, x.Channel = 1, "c c" }),
 		"an entry too great": entry(func(x *api.Seen) { x.Seq = api.MaxCount + 1 }),
 	} {

@@ -234,6 +234,16 @@ func TestFullDisk(t *testing.T) {
 	if size == 0 || size > 150 {
 		t.Errorf("%d", size)
 	}
+	c, _ := doc.Fetch(s, "a", none)
+	c.Id = "new"
+	if n, e := b.Force(c); n != 0 || e != api.ErrFull {
+		t.Errorf("Force: %d, %v", n, e)
+	}
+	if n, e := b.Mark("a", 1); n != 0 || e != api.ErrFull {
+		t.Errorf("Mark: %d, %v", n, e)
+	}
+	want(t, "Purge", b.Purge("a"), api.OK)
+	s, size = b.State(), b.Size()
 	want(t, "Compact", b.Compact(), api.ErrFull)
 	if !batch.SameState(b.State(), s) || b.Size() != size {
 		t.Error("an error changes the db")
