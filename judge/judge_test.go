@@ -115,6 +115,13 @@ func TestWorlds(t *testing.T) {
 			t.Errorf("%s: states", what)
 		}
 	}
+	for _, owners := range [][]string{{"u"}, {"u", "u", "v"}} {
+		w := worlding(t)
+		w.Owners, w.Rooms = owners, make([]int, len(owners)+1)
+		if at, why := judge.May(w, nil); at != -1 || why != api.WhyFine {
+			t.Errorf("%v: %d, %d", owners, at, why)
+		}
+	}
 	w := worlding(t)
 	for node, want := range map[int]int{0: 0, 1: 1, 3: 1, 4: 0, -1: 0} {
 		if s := judge.States(w, nil, node); len(s) != want || want == 1 && !batch.SameState(s[0], api.State{}) {
@@ -232,6 +239,41 @@ func TestStates(t *testing.T) {
 	}
 	if s := judge.States(worlding(t), join(a, a), 2); len(s) != 0 {
 		t.Error("states of what is impossible")
+	}
+}
+
+// TestShorterLog: a compaction that crashed may have made the log shorter, if
+// the last version was kept: then there is room for what would not fit otherwise.
+func TestShorterLog(t *testing.T) {
+	grow := func(m api.Model, n int) (api.Model, api.Happening) {
+		last, _ := doc.Get(m.State, "a", none)
+		d := api.Doing{Kind: api.DoEdit, Id: "a", Rev: last.Rev, Body: value.Number(int64(n))}
+		next, done := model.Do(m, d)
+		return next, api.Happening{Kind: api.HapDone, Node: 2, Doing: d, Done: done}
+	}
+	m, e := model.New(60000, api.Hubbing{})
+	if e != api.OK {
+		t.Fatal(e)
+	}
+	var l []api.Happening
+	for i := range 6 {
+		var h api.Happening
+		m, h = grow(m, i)
+		l = append(l, h)
+	}
+	compacted, _ := model.Do(m, api.Doing{Kind: api.DoCompact})
+	_, more := grow(m, 6)
+	w := worlding(t)
+	w.Rooms[1] = m.Log + compacted.Log
+	for keep, want := range map[int]int{0: api.WhyAnswer, 1: api.WhyFine, 2: api.WhyFine} {
+		if at, why := judge.May(w, join(l, broke(did(2, api.DoCompact), keep, 0), start(2, 2), more)); why != want {
+			t.Errorf("keeping %d: %d, %d", keep, at, why)
+		}
+	}
+	// A compaction for which there is no room is answered by an error: it does not crash in the middle.
+	w.Rooms[1]--
+	if at, why := judge.May(w, join(l, broke(did(2, api.DoCompact), 0, 0))); at != len(l) || why != api.WhyAnswer {
+		t.Errorf("%d, %d", at, why)
 	}
 }
 

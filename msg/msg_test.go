@@ -191,6 +191,14 @@ func TestSame(t *testing.T) {
 			t.Errorf("%s: the same", what)
 		}
 	}
+	lists := [][]api.Want{{{Id: "a"}}, {{Id: "b"}}, {{Id: "a", Revs: []api.Rev{r(1)}}}, {{Id: "a", Revs: []api.Rev{r(2)}}}, {{Id: "a"}, {Id: "a"}}}
+	for i, x := range lists {
+		for k, y := range lists {
+			if msg.Same(api.Packet{Ask: api.Ask{Wants: x}}, api.Packet{Ask: api.Ask{Wants: y}}) != (i == k) || msg.Same(api.Packet{Told: api.Told{Wants: x}}, api.Packet{Told: api.Told{Wants: y}}) != (i == k) {
+				t.Errorf("Same of wants %d, %d", i, k)
+			}
+		}
+	}
 	q := p
 	q.Ask.Wants, q.Told.Changes, q.Told.Copy.Path = []api.Want{}, []api.Change{}, []api.Rev{}
 	if !msg.Same(p, q) {

@@ -205,6 +205,21 @@ func TestRun(t *testing.T) {
 		"edit ok 1\nsettle 2 2 0 0 1\ng 1 1 1 {\"chan\":\"c\",\"who\":\"u\"}\nedit ok 2\nsettle 2 2 0 0 1\ng 1 gone 1 {\"chan\":\"c\",\"who\":\"u\"}\ng 2 1 2 {}\nsettle 0 0 0 0 0\n")
 }
 
+func TestNumbers(t *testing.T) {
+	runs(t, "crash", head+"edit 2 a \"1\"\nedit 2 b \"1\"\ncrash 2 1 0\nstart 2\nshow 2\nedit 2 b \"1\"\nedit 2 c \"1\"\ncrash 2 0 9999\nstart 2\nshow 2\n", "edit ok 1\nedit ok 1\ncrash ok\nstart ok\na 1 1 1 1\nedit ok 1\nedit ok 1\ncrash ok\nstart ok\na 1 1 1 1\nb 2 1 1 1\n")
+	runs(t, "fuse", head+"fuse 2 2 1 0\nedit 2 a \"1\"\nedit 2 b \"1\"\nstart 2\nshow 2\nfuse 2 1 0 9999\nedit 2 b \"1\"\nstart 2\nfuse 2 1 0 3\nedit 2 c \"1\"\nstart 2\nshow 2\n", "fuse ok\nedit ok 1\nedit 12\nstart ok\na 1 1 1 1\nfuse ok\nedit 12\nstart ok\nfuse ok\nedit 12\nstart ok\na 1 1 1 1\nb 2 1 1 1\n")
+	lines, want := "tick 100\npull 2\n", "tick ok 101\npull ok\n"
+	for i := 1; i <= 12; i++ {
+		lines += fmt.Sprintf("edit 2 a \"%d\"\ndouble 1\n", i)
+		want += fmt.Sprintf("edit ok %d\ndouble ok\n", i)
+	}
+	want += "a 12 1 12 12\n"
+	for id := 1; id <= 13; id++ {
+		want += fmt.Sprintf("%d 2 1 14\n", id)
+	}
+	runs(t, "numbers of two digits", head+lines+"show 2\nletters\n", want)
+}
+
 func TestConfiguration(t *testing.T) {
 	runs(t, "users twice", "user v\nuser u\nuser v\nspoke v 9000\nspoke x 9000\nspoke u 9000\nshow 4\nshow 1", "empty\nempty\n")
 	runs(t, "a room", "room 10\nspoke u 10\nedit 1 a \"1\"\nedit 2 a \"1\"\n", "edit 3\nedit 3\n")
@@ -248,6 +263,12 @@ func TestTell(t *testing.T) {
 		t.Errorf("%d, %v", at, e)
 	}
 	script.Print(l...)
+	room := append(make([]int64, 0, 9), 2)[:1]
+	room[:2][1] = 7
+	script.Tell(append(slices.Clone(l), api.Line{Word: "tick", Numbers: room})...)
+	if room[:2][1] != 7 {
+		t.Error("spare capacity is modified")
+	}
 	if fmt.Sprint(l) != old {
 		t.Error("an argument is modified")
 	}

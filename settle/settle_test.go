@@ -108,6 +108,19 @@ func TestRunMost(t *testing.T) {
 	runs(t, "two", w, 2, api.Settling{Rounds: 1, Ended: 2, Quiet: 1})
 }
 
+func TestOneSpokeAlone(t *testing.T) {
+	// What the spoke pulls changes its state alone.
+	w := made(t, nil, "u")
+	write(t, w, 1, "g", `{"who":"u"}`)
+	if settle.Full(w, 2) {
+		t.Error("full without the document of sequence 1")
+	}
+	runs(t, "a pull", w, 9, api.Settling{Rounds: 2, Ended: 2, Quiet: 1})
+	// Nothing changes, but the sessions are still running.
+	does(t, w, api.Step{Kind: api.StepCrash, Node: 1, Keep: 99})
+	runs(t, "no hub", w, 2, api.Settling{Rounds: 2})
+}
+
 func TestCarry(t *testing.T) {
 	w := made(t, nil, "u", "v")
 	if n := settle.Carry(w); n != 0 {

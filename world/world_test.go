@@ -253,8 +253,9 @@ func TestNetAndTime(t *testing.T) {
 		t.Error("it is not asked again")
 	}
 	does(t, w, api.Step{Kind: api.StepCrash, Node: 2}, api.OK)
+	n = len(w.Happenings())
 	does(t, w, api.Step{Kind: api.StepTick, By: 9}, api.OK)
-	if w.Net().Count() != 2 {
+	if w.Net().Count() != 2 || len(w.Happenings()) != n {
 		t.Error("a node that is down asks")
 	}
 	for range 40 {
@@ -275,6 +276,12 @@ func TestPurgeFailsSessions(t *testing.T) {
 	does(t, w, api.Step{Kind: api.StepBegin, Node: 2, Push: 1}, api.OK)
 	happened(t, "StepBegin", w, api.Happening{Kind: api.HapBegin, Node: 2, Time: 1, Push: 1})
 	does(t, w, api.Step{Kind: api.StepBegin, Node: 2}, api.OK)
+	n := len(w.Happenings())
+	does(t, w, write(t, 2, "other", none, "1"), api.OK)
+	does(t, w, operation(2, api.DoPurge, "q"), api.OK)
+	if len(w.Happenings()) != n+2 {
+		t.Errorf("sessions that go on: %v", last(w, 3))
+	}
 	step := operation(2, api.DoPurge, "a")
 	does(t, w, step, api.OK)
 	happened(t, "purge", w, api.Happening{Kind: api.HapDone, Node: 2, Time: 1, Doing: step.Doing}, api.Happening{Kind: api.HapFail, Node: 2, Time: 1, Why: api.ErrState}, api.Happening{Kind: api.HapFail, Node: 2, Time: 1, Push: 1, Why: api.ErrState})
@@ -319,7 +326,17 @@ func TestSharing(t *testing.T) {
 	told := does(t, w, api.Step{Kind: api.StepDo, Node: 1, Doing: api.Doing{Kind: api.DoTold, Ask: api.Ask{User: "u", Kind: api.AskMissing, Wants: wants}}}, api.OK)
 	changes := does(t, w, api.Step{Kind: api.StepDo, Node: 1, Doing: api.Doing{Kind: api.DoChanges, Most: 9}}, api.OK)
 	got := does(t, w, operation(1, api.DoGet, "g"), api.OK)
+	other := api.Copy{Id: "o", Path: []api.Rev{done.Rev}, Body: body(t, `{"who":"u"}`)}
+	ask := func(a api.Ask) api.Done {
+		a.User = "u"
+		return does(t, w, api.Step{Kind: api.StepDo, Node: 1, Doing: api.Doing{Kind: api.DoTold, Ask: a}}, api.OK)
+	}
+	ask(api.Ask{Kind: api.AskForce, Copy: other})
+	fetched := ask(api.Ask{Kind: api.AskFetch, Id: "g", Rev: done.Rev})
+	asked := ask(api.Ask{Kind: api.AskChanges, Most: 9})
 	before := fmt.Sprint(w.Happenings(), w.State(1))
+	other.Path[0], other.Body.Keys[0] = none, "x"
+	fetched.Told.Copy.Path[0], fetched.Told.Copy.Body.Keys[0], asked.Told.Changes[0].Leaves[0] = none, "x", none
 	step.Doing.Body.Keys[0], copied.Path[0], copied.Body.Keys[0], wants[0].Revs[0] = "x", none, "x", none
 	told.Told.Wants[0].Revs[0], changes.Changes[0].Leaves[0], got.Node.Body.Keys[0] = none, none, "x"
 	for _, h := range w.Happenings() {
@@ -334,6 +351,15 @@ func TestSharing(t *testing.T) {
 		}
 		for i := range h.Done.Told.Wants {
 			h.Done.Told.Wants[i].Revs[0] = none
+		}
+		for i := range h.Doing.Ask.Copy.Path {
+			h.Doing.Ask.Copy.Path[i] = none
+		}
+		for i := range h.Done.Told.Copy.Path {
+			h.Done.Told.Copy.Path[i] = none
+		}
+		for i := range h.Done.Told.Changes {
+			h.Done.Told.Changes[i].Leaves[0] = none
 		}
 		for i := range h.Doing.Ask.Wants {
 			h.Doing.Ask.Wants[i].Id = "y"
