@@ -295,7 +295,7 @@ func TestTakeWhatIsNotMeant(t *testing.T) {
 		from int
 		b    []byte
 	}{"nothing": {h, 2, nil}, "a cut one": {h, 2, ask[1:]}, "a longer one": {h, 2, append(slices.Clone(ask), 0)}, "an answer to a hub": {h, 2, told}, "from a hub": {h, 1, ask}, "from nobody": {h, 0, ask}, "from -1": {h, -1, ask},
-		"a question to a spoke": {s, 1, ask}, "an answer from a spoke": {s, 3, told}, "an answer from 0": {s, 0, told}, "nothing to a spoke": {s, 1, nil}} {
+		"a question to a spoke": {s, 1, ask}, "a question to a spoke, from a spoke": {s, 3, ask}, "an answer to a hub, from a hub": {h, 1, told}, "an answer from a spoke": {s, 3, told}, "an answer from 0": {s, 0, told}, "nothing to a spoke": {s, 1, nil}} {
 		before := fmt.Sprint(c.p.State(), c.p.Pulls(), c.p.Pushes())
 		came := c.p.Take(9, c.from, c.b)
 		if len(came.Posts) != 0 || len(came.Haps) != 1 || came.Haps[0].Kind != api.HapForm || came.Haps[0].Why != api.ErrForm || came.Haps[0].Time != 9 || fmt.Sprint(c.p.State(), c.p.Pulls(), c.p.Pushes()) != before {
@@ -385,6 +385,43 @@ func TestWorksThatFail(t *testing.T) {
 	}
 	if p := s.Pushes(); p.Phase != api.PhaseRests || p.Why != api.ErrDown || p.Done != 0 {
 		t.Errorf("%v", p)
+	}
+}
+
+// TestCheckThatFails: a checkpoint fails while there is more to be pushed.
+func TestCheckThatFails(t *testing.T) {
+	h, s, d := pair(t)
+	for i := range 10 {
+		edit(t, s, fmt.Sprint("n", i), "1")
+	}
+	came, _ := s.Begin(1, 1)
+	var haps []api.Happening
+	for len(came.Posts) > 0 {
+		reply := h.Take(1, 2, came.Posts[0].Bytes)
+		if reply.Haps[0].Doing.Ask.Kind == api.AskSet {
+			d.Fuse(1, 0, 0)
+		}
+		came = s.Take(1, 1, reply.Posts[0].Bytes)
+		haps = append(haps, came.Haps...)
+	}
+	if p := s.Pushes(); kinds(haps) != "1.5 4 " || p.Phase != api.PhaseRests || p.Why != api.ErrDown || p.Done != 0 {
+		t.Errorf("%s: %v", kinds(haps), p)
+	}
+	edit(t, h, "x", "1")
+	_, s, _ = pair(t)
+	for i := range 3 {
+		edit(t, s, fmt.Sprint("n", i), "[1]")
+	}
+	came, _ = s.Begin(1, 1)
+	for range 2 {
+		reply := h.Take(1, 2, came.Posts[0].Bytes)
+		came = s.Take(1, 1, reply.Posts[0].Bytes)
+	}
+	before := fmt.Sprint(s.Pushes())
+	p := s.Pushes()
+	p.Batch[0].Leaves[0], p.Queue[0].Revs[0], p.Queue[0].Id, p.Batch[0].Id = none, none, "x", "x"
+	if fmt.Sprint(s.Pushes()) != before {
+		t.Error("the session is shared")
 	}
 }
 

@@ -284,6 +284,30 @@ func TestNothingMissing(t *testing.T) {
 	}
 }
 
+// TestOddSessions: what was queued before does not matter, nor do leaves of what is gone.
+func TestOddSessions(t *testing.T) {
+	s, _, b := spoke(t, 0)
+	c := copyOf(t, "c", 70)
+	p := begun(t)
+	p.Phase, p.Queue = api.PhaseChanges, []api.Want{{Id: "junk", Revs: []api.Rev{{Gen: 9}}}}
+	told := answer(p, api.AskChanges, func(t *api.Told) {
+		t.Changes = []api.Change{{Id: "b", Seq: 3, Gone: 1, Leaves: []api.Rev{b, {Gen: 4}}}, {Id: "c", Seq: 4, Leaves: c.Path}}
+	})
+	q, works, asks := pull.Take(p, 2, s, told)
+	if len(works) != 0 || len(q.Queue) != 1 || q.Queue[0].Id != "c" || len(asks) != 1 || asks[0].Id != "c" {
+		t.Errorf("%v", q)
+	}
+	told.Changes = told.Changes[:1]
+	q, works, _ = pull.Take(p, 2, s, told)
+	if q.Phase != api.PhaseSets || len(q.Queue) != 0 || len(works) != 1 {
+		t.Errorf("%v, %v", q, works)
+	}
+	q, works, _ = pull.Take(q, 3, s, answer(q, api.AskSet, func(t *api.Told) {}))
+	if q.Phase != api.PhaseChanges || len(works) != 1 || works[0].Kind != api.WorkCheck {
+		t.Errorf("%v, %v", q, works)
+	}
+}
+
 func TestAnswersThatDoNotCount(t *testing.T) {
 	p, s, x, _, _ := fetching(t)
 	good := answer(p, api.AskFetch, func(t *api.Told) { t.Copy = x })
@@ -310,10 +334,13 @@ func TestAnswersThatDoNotCount(t *testing.T) {
 			odd.Phase, odd.Why = api.PhaseRests, why
 			same(t, fmt.Sprint("why ", why), q, odd, works, nil, asks, nil)
 		}
-		if why := api.ErrNone; kind != api.AskFetch {
+		for _, why := range []api.Errno{api.ErrNone, api.ErrForbidden, api.ErrState} {
+			if kind == api.AskFetch && why != api.ErrState || kind == api.AskSet && why == api.ErrState {
+				continue
+			}
 			odd = p
 			odd.Phase = phase
-			if q, _, _ := pull.Take(odd, 99, s, answer(odd, kind, func(t *api.Told) { t.Why = why })); q.Phase != api.PhaseRests || q.Why != why {
+			if q, _, asks := pull.Take(odd, 99, s, answer(odd, kind, func(t *api.Told) { t.Why = why })); q.Phase != api.PhaseRests || q.Why != why || len(asks) != 0 {
 				t.Errorf("%v", q)
 			}
 		}
@@ -373,6 +400,14 @@ func TestSame(t *testing.T) {
 		var p api.Pulling
 		if change(&p); pull.Same(p, api.Pulling{}) || !pull.Same(p, p) {
 			t.Errorf("%s", what)
+		}
+	}
+	lists := [][]api.Want{{{Id: "a"}}, {{Id: "b"}}, {{Id: "a", Revs: []api.Rev{{Gen: 1}}}}, {{Id: "a", Revs: []api.Rev{{Gen: 2}}}}}
+	for i, x := range lists {
+		for k, y := range lists {
+			if pull.Same(api.Pulling{Queue: x}, api.Pulling{Queue: y}) != (i == k) || pull.SameAsks([]api.Ask{{Wants: x}}, []api.Ask{{Wants: y}}) != (i == k) {
+				t.Errorf("wants %d, %d", i, k)
+			}
 		}
 	}
 	for what, a := range map[string]api.Ask{"user": {User: "x"}, "push": {Push: 1}, "inc": {Inc: 1}, "n": {N: 1}, "kind": {Kind: 1}, "session": {Session: "x"}, "since": {Since: 1}, "most": {Most: 1}, "wants": {Wants: []api.Want{{}}}, "id": {Id: "x"}, "rev": {Rev: api.Rev{Gen: 1}}, "copy": {Copy: api.Copy{Deleted: 1}}, "seq": {Seq: 1}, "life": {Life: 1}} {

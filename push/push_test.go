@@ -240,6 +240,40 @@ func TestForced(t *testing.T) {
 	}
 }
 
+// TestOddSessions: what was queued before does not matter; with nothing queued, an answer goes on as well.
+func TestOddSessions(t *testing.T) {
+	p, s := forcing(t)
+	p.Queue = nil
+	q, works, asks := push.Take(p, 3, s, answer(p, api.AskForce, func(t *api.Told) {}))
+	if q.Phase != api.PhaseMisses || len(works) != 0 || len(asks) != 1 {
+		t.Errorf("%v", q)
+	}
+	asks[0].Wants[0].Revs[0] = none
+	if q.Batch[0].Leaves[0] == none {
+		t.Error("a question shares with the session")
+	}
+	p.Phase, p.Queue = api.PhaseMisses, []api.Want{{Id: "a", Revs: p.Batch[0].Leaves}}
+	q, _, asks = push.Take(p, 3, s, answer(p, api.AskMissing, func(t *api.Told) { t.Wants = []api.Want{{Id: "b", Revs: p.Batch[1].Leaves}} }))
+	if len(q.Queue) != 1 || q.Queue[0].Id != "b" || len(asks) != 1 || asks[0].Copy.Id != "b" {
+		t.Errorf("%v", q)
+	}
+	for phase, kind := range map[int]int{api.PhaseChecks: api.AskCheck, api.PhaseMisses: api.AskMissing, api.PhaseForces: api.AskForce} {
+		odd := p
+		odd.Phase = phase
+		if q, _, asks := push.Take(odd, 3, s, answer(odd, kind, func(t *api.Told) { t.Why = api.ErrState })); q.Phase != api.PhaseRests || q.Why != api.ErrState || len(asks) != 0 {
+			t.Errorf("phase %d: %v", phase, q)
+		}
+		for _, why := range []api.Errno{api.ErrReject, api.ErrForbidden, api.ErrFuel} {
+			if kind == api.AskForce {
+				continue
+			}
+			if q, _, asks := push.Take(odd, 3, s, answer(odd, kind, func(t *api.Told) { t.Why = why })); q.Phase != api.PhaseRests || q.Why != why || q.Refused != 0 || len(asks) != 0 {
+				t.Errorf("phase %d: %v", phase, q)
+			}
+		}
+	}
+}
+
 func TestMissed(t *testing.T) {
 	s, a, b := spoke(t, 0)
 	p := begun(t)
@@ -347,7 +381,7 @@ func TestFailedAndTick(t *testing.T) {
 	}
 	for phase, kind := range map[int]int{api.PhaseChecks: api.AskCheck, api.PhaseMisses: api.AskMissing, api.PhaseSets: api.AskSet} {
 		odd := p
-		odd.Phase, odd.N = phase, math.MaxUint64
+		odd.Phase, odd.N, odd.Queue = phase, math.MaxUint64, nil
 		if q, asks := push.Tick(odd, 99, s); len(asks) != 1 || asks[0].Kind != kind || asks[0].N != math.MaxUint64 || q.Asked != 99 || q.N != odd.N || q.Phase != phase {
 			t.Errorf("phase %d: %v", phase, asks)
 		}
@@ -367,8 +401,15 @@ func TestSame(t *testing.T) {
 			t.Errorf("%s", what)
 		}
 	}
-	a, b := api.Pushing{Queue: []api.Want{{Id: "a", Revs: []api.Rev{{Gen: 1}}}}}, api.Pushing{Queue: []api.Want{{Id: "a", Revs: []api.Rev{{Gen: 2}}}}}
-	if push.Same(a, b) || !push.Same(api.Pushing{}, api.Pushing{Batch: []api.Change{}, Queue: []api.Want{}}) {
+	lists := [][]api.Want{{{Id: "a"}}, {{Id: "b"}}, {{Id: "a", Revs: []api.Rev{{Gen: 1}}}}, {{Id: "a", Revs: []api.Rev{{Gen: 2}}}}}
+	for i, x := range lists {
+		for k, y := range lists {
+			if push.Same(api.Pushing{Queue: x}, api.Pushing{Queue: y}) != (i == k) {
+				t.Errorf("wants %d, %d", i, k)
+			}
+		}
+	}
+	if !push.Same(api.Pushing{}, api.Pushing{Batch: []api.Change{}, Queue: []api.Want{}}) {
 		t.Error("Same")
 	}
 }
