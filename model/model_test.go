@@ -20,7 +20,7 @@ import (
 
 var none api.Rev
 
-const source = `channel chan ; grant user see ; when bad = true { reject ; } when has old.lock and lock != old.lock { reject ; }`
+const source = `channel chan ; when has old.chan { channel "was" ; } grant user see ; when bad = true { reject ; } when has old.lock and lock != old.lock { reject ; }`
 
 func rules(t *testing.T) api.Program {
 	t.Helper()
@@ -260,7 +260,7 @@ func TestSharing(t *testing.T) {
 }
 
 // random is an operation of any kind.
-func random(t *testing.T, r *rand.Rand, s api.State) api.Doing {
+func random(t *testing.T, r *rand.Rand, s api.State, life uint64) api.Doing {
 	id := string("abcd"[r.Intn(4)])
 	user := []string{"u", "v", "w"}[r.Intn(3)]
 	n, _ := doc.Get(s, id, none)
@@ -277,7 +277,7 @@ func random(t *testing.T, r *rand.Rand, s api.State) api.Doing {
 	}
 	x, _ := rev.Make(parent, copied.Deleted, v)
 	copied.Path = append([]api.Rev{x}, parents...)
-	a := api.Ask{User: user, Push: r.Intn(2), Inc: uint64(r.Intn(3)), N: uint64(r.Intn(9)), Kind: r.Intn(8), Session: []string{"s", "life", "", "z"}[r.Intn(4)], Since: uint64(r.Intn(9)), Most: r.Intn(4), Id: id, Rev: n.Rev, Copy: copied, Seq: uint64(r.Intn(5)), Life: uint64(1 + r.Intn(3)),
+	a := api.Ask{User: user, Push: r.Intn(2), Inc: uint64(r.Intn(3)), N: uint64(r.Intn(9)), Kind: r.Intn(8), Session: []string{"s", "life", "", "z"}[r.Intn(4)], Since: uint64(r.Intn(9)), Most: r.Intn(4), Id: id, Rev: n.Rev, Copy: copied, Seq: uint64(r.Intn(5)), Life: life - uint64(r.Intn(5)/4),
 		Wants: []api.Want{{Id: id, Revs: []api.Rev{n.Rev, x}[r.Intn(2):]}}}
 	kind := []int{1, 1, 1, 1, 2, 2, 3, 4, 5, 6, 7, 8, 8, 8, 8, 9, 10, 11}[r.Intn(18)]
 	d := api.Doing{Kind: kind, Id: id, Rev: n.Rev, Body: v, Deleted: r.Intn(6) / 5, Gone: r.Intn(2), Copy: copied, User: user, Session: "s", Seq: uint64(r.Intn(9)), Since: uint64(r.Intn(5)), Most: r.Intn(5), Ask: a}
@@ -306,7 +306,7 @@ func TestTheorem(t *testing.T) {
 		m := made(t, capacity, h)
 		states := []api.State{{}}
 		for step := range 40 {
-			op := random(t, r, m.State)
+			op := random(t, r, m.State, m.Made.Life)
 			next, want := model.Do(m, op)
 			if got := p.Do(op); !model.SameDone(got, want) {
 				t.Fatalf("step %d, kind %d: %v, not %v", step, op.Kind, got, want)
