@@ -273,6 +273,22 @@ func TestWinners(t *testing.T) {
 	}
 }
 
+// TestParents: a path that gives a parent to what was cut off changes a document, whose winner is judged again.
+func TestParents(t *testing.T) {
+	h := open(t, made(t, 60000), `channel chan ; grant user see ; when has old.chan { channel "was" ; }`, 1, "u", "v")
+	edit(t, h, "g", `{"see":"x","user":"u"}`)
+	c := copyOf(t, "a", []api.Rev{{Gen: 2, Sum: [16]byte{2}}}, 0, `{"chan":"x"}`)
+	force(t, h, "u", c, 1, api.OK)
+	if has(h, "a") != "x;" {
+		t.Error(has(h, "a"))
+	}
+	c.Path = append(c.Path, api.Rev{Gen: 1, Sum: [16]byte{1}})
+	force(t, h, "u", c, 1, api.OK)
+	if has(h, "a") != "was,x;" || h.State().Seq != 3 {
+		t.Error(has(h, "a"))
+	}
+}
+
 func TestPurge(t *testing.T) {
 	h := open(t, made(t, 60000), plain, 1, "u", "v")
 	edit(t, h, "g", `{"chan":"c","see":"c","user":"u"}`)

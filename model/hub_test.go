@@ -98,6 +98,26 @@ func TestHubWinners(t *testing.T) {
 	}
 }
 
+// TestHubParents: a path that gives a parent to what was cut off changes a document, whose winner is judged again.
+func TestHubParents(t *testing.T) {
+	m := hubOf(t, `channel chan ; grant user see ; when has old.chan { channel "was" ; }`)
+	m = puts(t, m, "g", `{"see":"x","user":"u"}`)
+	low := api.Rev{Gen: 1, Sum: [16]byte{1}}
+	high := api.Rev{Gen: 2, Sum: [16]byte{2}}
+	c := copyOf(t, "a", []api.Rev{high}, 0, `{"chan":"x"}`)
+	m = forces(t, m, "u", c, 1, api.OK)
+	if channels(m, "a") != "x" {
+		t.Errorf("%s", channels(m, "a"))
+	}
+	c.Path = append(c.Path, low)
+	if next := forces(t, m, "u", c, 1, api.OK); channels(next, "a") != "was,x" {
+		t.Errorf("%s", channels(next, "a"))
+	}
+	if next := forces(t, m, "v", c, 1, api.OK); channels(next, "a") != "x" {
+		t.Errorf("for who does not see it: %s", channels(next, "a"))
+	}
+}
+
 func TestHubForce(t *testing.T) {
 	m := hubOf(t, `channel chan ; grant user see ; when bad = true { reject ; } when old.lock = true and lock != true { reject ; }`)
 	m = puts(t, m, "g", `{"see":"c","user":"u"}`)
@@ -162,6 +182,8 @@ func TestHubCheckpoints(t *testing.T) {
 	set(m, "", 1, 0, 1, api.ErrArg)
 	m = set(m, "s", 2, 0, 1, api.OK)
 	m = set(m, "p", 99, 1, 1, api.OK)
+	set(m, "life", 0, 0, 1, api.ErrArg)
+	set(m, "life", 1, 1, 1, api.ErrArg)
 	if want := []api.Local{{Id: "life", Seq: 1}, {Id: "p", Seq: 99}, {Id: "s", Seq: 2}}; !slices.Equal(m.State.Locals, want) || check(m, "s") != 2 || check(m, "p") != 99 || check(m, "q") != 0 {
 		t.Errorf("%v", m.State.Locals)
 	}

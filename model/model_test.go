@@ -235,7 +235,14 @@ func TestSharing(t *testing.T) {
 	x, _ := model.Do(m, edit(t, "c", "1"))
 	y, _ := model.Do(m, api.Doing{Kind: 99})
 	z, _ := model.Do(m, api.Doing{Kind: api.DoSync})
-	for _, o := range []api.Model{x, y, z, model.Crash(m, 1, 0), model.Again(m, 3)} {
+	v2, _ := model.Do(m, api.Doing{Kind: api.DoGet, Id: "q"})
+	roomy := m
+	roomy.Past, roomy.Logs = append(make([]api.State, 0, 9), m.Past...), append(make([]int, 0, 9), m.Logs...)
+	model.Do(roomy, edit(t, "c", "1"))
+	if n := len(m.Past); roomy.Past[:n+1][n].Seq != 0 || roomy.Logs[:n+1][n] != 0 {
+		t.Error("spare capacity is modified")
+	}
+	for _, o := range []api.Model{x, y, z, v2, model.Crash(m, 1, 0), model.Again(m, 3)} {
 		for _, s := range append([]api.State{o.State, o.Lasts}, o.Past...) {
 			for i := range s.Docs {
 				s.Docs[i].Id = "x"
