@@ -242,6 +242,13 @@ func TestFullAndAlike(t *testing.T) {
 	if !settle.Full(w, 2) || !settle.Full(w, 3) || !settle.Alike(w, 2, 3) || settle.Alike(w, 3, 4) || w.Steps() != steps {
 		t.Error("after rounds")
 	}
+	// Documents of the same revisions, but of other names, are not alike.
+	other := made(t, nil, "u", "u")
+	write(t, other, 2, "a", "1")
+	write(t, other, 3, "b", "1")
+	if settle.Alike(other, 2, 3) {
+		t.Error("documents of other names")
+	}
 	mark := func(node, gone int) {
 		does(t, w, api.Step{Kind: api.StepDo, Node: node, Doing: api.Doing{Kind: api.DoMark, Id: "a", Gone: gone}})
 	}
