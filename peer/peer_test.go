@@ -339,52 +339,86 @@ func TestTick(t *testing.T) {
 
 // TestWorksThatFail fills the spoke's disk so that a work of a session cannot be done.
 func TestWorksThatFail(t *testing.T) {
+	pushes := map[api.Errno]int{}
 	for capacity := 0; capacity < 420; capacity += 7 {
 		h := open(t, made(t, 60000), api.Peering{Node: 1, Made: hubbing(t, "u")})
 		s := open(t, made(t, capacity), api.Peering{Node: 2, User: "u", Inc: 1})
 		edit(t, h, "g", `{"who":"u"}`)
 		edit(t, h, "d", "null")
-		for direction := range 2 {
-			haps := session(t, h, s, direction)
-			last := haps[len(haps)-1]
-			why := api.OK
-			for _, x := range haps {
-				if x.Kind == api.HapDone && x.Node == 2 && x.Done.Why != api.OK {
-					why = x.Done.Why
-				}
-			}
-			p, q := s.Pulls(), s.Pushes()
-			phase, done, got := p.Phase, p.Done, p.Why
-			if direction == 1 {
-				phase, done, got = q.Phase, q.Done, q.Why
-			}
-			if phase != api.PhaseRests || got != why {
-				t.Fatalf("capacity %d: phase %d, %v, not %v", capacity, phase, got, why)
-			}
-			if why == api.OK && (last.Kind != api.HapEnd || done != 1) || why != api.OK && (last.Kind != api.HapFail || last.Why != why || done != 0 || last.Push != direction) {
-				t.Fatalf("capacity %d: %v", capacity, last)
-			}
-			if last.Kind == api.HapEnd && direction == 1 && batch.Local(s.State(), "push-2") != q.Since {
-				t.Fatalf("capacity %d: it ended without a checkpoint", capacity)
-			}
+		last, why := lastAndFailed(session(t, h, s, 0))
+		want := api.Happening{Kind: api.HapFail, Node: 2, Time: 7, Why: why}
+		if why == api.OK {
+			want = api.Happening{Kind: api.HapEnd, Node: 2, Time: 7, Since: s.Pulls().Since}
+		}
+		if p := s.Pulls(); fmt.Sprint(last) != fmt.Sprint(want) || p.Phase != api.PhaseRests || p.Why != why || p.Done == 1 != (why == api.OK) {
+			t.Fatalf("capacity %d: %v, %v", capacity, last, p)
+		}
+		// The only checkpoint of the push is its last one: the session has ended before the work is done.
+		last, why = lastAndFailed(session(t, h, s, 1))
+		pushes[why]++
+		seq := s.State().Seq
+		want = api.Happening{Kind: api.HapEnd, Node: 2, Time: 7, Push: 1, Since: seq}
+		if p := s.Pushes(); fmt.Sprint(last) != fmt.Sprint(want) || p.Phase != api.PhaseRests || p.Why != api.OK || p.Done != 1 || p.Since != seq {
+			t.Fatalf("capacity %d: %v, %v", capacity, last, p)
+		}
+		if l := batch.Local(s.State(), "push-2"); why == api.OK && l != seq || why != api.OK && l != 0 {
+			t.Fatalf("capacity %d: %v, but the checkpoint is %d", capacity, why, l)
 		}
 	}
-	// The last checkpoint of a push fails: the session fails, though it had nothing more to do.
-	h, s, d := pair(t)
-	edit(t, s, "a", "1")
-	came, _ := s.Begin(1, 1)
-	for range 3 {
+	if pushes[api.OK] == 0 || pushes[api.ErrFull] == 0 || len(pushes) != 2 {
+		t.Errorf("%v", pushes)
+	}
+}
+
+// lastAndFailed is the last happening, and the error of the work of the spoke that failed.
+func lastAndFailed(haps []api.Happening) (last api.Happening, why api.Errno) {
+	for _, x := range haps {
+		if x.Kind == api.HapDone && x.Node == 2 && x.Done.Why != api.OK {
+			why = x.Done.Why
+		}
+	}
+	return haps[len(haps)-1], why
+}
+
+// TestLastCheckThatFails: the last checkpoint of a push fails, for whatever
+// reason, when the session has ended already: it stays as it is.
+func TestLastCheckThatFails(t *testing.T) {
+	for _, want := range []api.Errno{api.ErrDown, api.ErrFull} {
+		capacity := 60000
+		if want == api.ErrFull {
+			_, s, d := pair(t)
+			edit(t, s, "a", "1")
+			edit(t, s, "n", `{"bad":true}`)
+			capacity = d.Bytes()
+		}
+		d := made(t, capacity)
+		h, s := open(t, made(t, 60000), api.Peering{Node: 1, Made: hubbing(t, "u")}), open(t, d, api.Peering{Node: 2, User: "u", Inc: 1})
+		edit(t, s, "a", "1")
+		edit(t, s, "n", `{"bad":true}`)
+		came, _ := s.Begin(1, 1)
 		reply := h.Take(1, 2, came.Posts[0].Bytes)
-		came = s.Take(1, 1, reply.Posts[0].Bytes)
-	}
-	reply := h.Take(1, 2, came.Posts[0].Bytes)
-	d.Fuse(1, 0, 0)
-	came = s.Take(2, 1, reply.Posts[0].Bytes)
-	if got := kinds(came.Haps); got != "1.5 4 " || len(came.Posts) != 0 || came.Haps[0].Done.Why != api.ErrDown || came.Haps[1].Why != api.ErrDown || came.Haps[1].Push != 1 {
-		t.Errorf("%s: %v", got, came.Haps)
-	}
-	if p := s.Pushes(); p.Phase != api.PhaseRests || p.Why != api.ErrDown || p.Done != 0 {
-		t.Errorf("%v", p)
+		for reply.Haps[0].Doing.Ask.Kind != api.AskSet {
+			came = s.Take(1, 1, reply.Posts[0].Bytes)
+			reply = h.Take(1, 2, came.Posts[0].Bytes)
+		}
+		if want == api.ErrDown {
+			d.Fuse(1, 0, 0)
+		}
+		came = s.Take(3, 1, reply.Posts[0].Bytes)
+		haps := []api.Happening{
+			{Kind: api.HapDone, Node: 2, Time: 3, Doing: api.Doing{Kind: api.DoCheck, Session: "push-2", Seq: 2}, Done: api.Done{Why: want}},
+			{Kind: api.HapEnd, Node: 2, Time: 3, Push: 1, Since: 2, Count: 1},
+		}
+		if fmt.Sprint(came.Haps) != fmt.Sprint(haps) || len(came.Posts) != 0 {
+			t.Errorf("%v: %v", want, came)
+		}
+		if p := s.Pushes(); p.Phase != api.PhaseRests || p.Done != 1 || p.Why != api.OK || p.Since != 2 || p.Refused != 1 {
+			t.Errorf("%v: %v", want, p)
+		}
+		// The answer once more: it does not count any more.
+		if came := s.Take(3, 1, reply.Posts[0].Bytes); len(came.Haps)+len(came.Posts) != 0 {
+			t.Errorf("%v: %v", want, came)
+		}
 	}
 }
 

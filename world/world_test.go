@@ -311,6 +311,27 @@ func TestFuseInASession(t *testing.T) {
 	}
 }
 
+// TestFuseAtTheLastCheckpoint crashes a spoke within the work that its push
+// leaves when it has ended already: it has ended nevertheless, and then the spoke crashes.
+func TestFuseAtTheLastCheckpoint(t *testing.T) {
+	for keep, want := range map[int]uint64{0: 0, 9: 1} {
+		w := made(t, "u")
+		does(t, w, write(t, 2, "a", none, "1"), api.OK)
+		does(t, w, operation(2, api.DoSync, ""), api.OK)
+		does(t, w, api.Step{Kind: api.StepBegin, Node: 2, Push: 1}, api.OK)
+		does(t, w, api.Step{Kind: api.StepFuse, Node: 2, N: 1, Keep: keep}, api.OK)
+		deliverAll(t, w)
+		happened(t, "the end", w,
+			api.Happening{Kind: api.HapDone, Node: 2, Time: 1, Doing: api.Doing{Kind: api.DoCheck, Session: "push-2", Seq: 1}, Done: api.Done{Why: api.ErrDown}},
+			api.Happening{Kind: api.HapEnd, Node: 2, Time: 1, Push: 1, Since: 1},
+			api.Happening{Kind: api.HapCrash, Node: 2, Time: 1, Keep: keep, Midst: 1})
+		does(t, w, api.Step{Kind: api.StepStart, Node: 2}, api.OK)
+		if got := batch.Local(w.State(2), "push-2"); got != want {
+			t.Errorf("keeping %d: the checkpoint is %d", keep, got)
+		}
+	}
+}
+
 func TestSharing(t *testing.T) {
 	c := worlding(t, "u")
 	w, _ := world.New(c)
